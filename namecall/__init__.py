@@ -1,1 +1,1 @@
-"""Namecall: terms of names, forms and calls, and the steps that can be done in them."""
+"""Namecall: terms of names, forms and calls, the steps that can be done in them, and lines."""

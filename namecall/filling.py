@@ -1,21 +1,11 @@
 """Terms raised, filled into bodies, and put in the place of names."""
 
-from namecall.parts import is_outer, parts_of
+from namecall.parts import built, is_outer, parts_of
 
 
 # The term with `change(part, forms)` instead of each name and place, `forms` of it lying round it.
 def rebuilt(term, change):
-    ready = []
-    # Backwards a part comes up just when its own parts are the last ones that were made ready.
-    for part, forms in reversed(parts_of(term)):
-        if part[0] == "form":
-            ready.append(("form", ready.pop()))
-        elif part[0] == "call":
-            one = ready.pop()
-            ready.append(("call", one, ready.pop()))
-        else:
-            ready.append(change(part, forms))
-    return ready.pop()
+    return built(parts_of(term), change, lambda body, forms: ("form", body))
 
 
 def lifted(term, by):

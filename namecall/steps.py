@@ -1,26 +1,16 @@
 """Steps: where they can be done, a single one, and a term led on by fuel."""
 
 from namecall.errors import NoStep
+from namecall.parts import parts_of, paths_of
 from namecall.stand import Stand, is_spot
 
 
 def spots(term):
-    found = []
-    todo = [(term, [])]
-    while todo:
-        pair = todo.pop()
-        part = pair[0]
-        path = pair[1]
-        if is_spot(part):
-            found.append(path)
-        if part[0] == "call":
-            todo.append((part[2], path + [1]))
-        if part[0] == "call" or part[0] == "form":
-            todo.append((part[1], path + [0]))
-    return found
+    return [path for pair, path in zip(parts_of(term), paths_of(term)) if is_spot(pair[0])]
 
 
-def step(term, path):
+# A stand at the call of the step with that path.
+def stand_at(term, path):
     stand = Stand(term)
     for turn in path:
         if not stand.leads_on(turn):
@@ -28,6 +18,11 @@ def step(term, path):
         stand.go_down(turn)
     if not is_spot(stand.part):
         raise NoStep("no call of a form stands at the path")
+    return stand
+
+
+def step(term, path):
+    stand = stand_at(term, path)
     stand.do_step()
     stand.go_to_top()
     return stand.part

@@ -42,7 +42,7 @@ class Language(unittest.TestCase):
     def test_the_package_holds_its_modules_alone(self):
         found = {path.name for path in PACKAGE.iterdir() if path.name != "__pycache__"}
         self.assertEqual(found, {path.name for path in FILES})
-        for module in ("__init__", "errors", "parts", "filling", "steps"):
+        for module in ("__init__", "errors", "parts", "filling", "steps", "atonce", "together", "naming", "notes"):
             self.assertIn(module + ".py", found)
 
     def test_signs_lines_and_words(self):
@@ -61,6 +61,7 @@ class Language(unittest.TestCase):
                 self.assertIsInstance(node, STATEMENTS + EXPRESSIONS, path.name)
             for node in nodes(path, ast.Assign):
                 self.assertEqual(len(node.targets), 1, path.name)
+                self.assertIsInstance(node.targets[0], (ast.Name, ast.Attribute, ast.Subscript), path.name)
             for node in nodes(path, (ast.For, ast.While)):
                 self.assertEqual(node.orelse, [], path.name)
             for node in nodes(path, ast.ListComp):
@@ -83,6 +84,7 @@ class Language(unittest.TestCase):
                 self.assertEqual((row.level, row.module.split(".")[0]), (0, "namecall"))
                 source = ast.parse((PACKAGE / (row.module.split(".")[1] + ".py")).read_text())
                 tops = [node.name for node in source.body if hasattr(node, "name")]
+                tops += [node.targets[0].id for node in source.body if isinstance(node, ast.Assign)]
                 for name in row.names:
                     self.assertIn(name.name, tops)
         while drawn:
@@ -106,18 +108,43 @@ class Language(unittest.TestCase):
     def test_names_and_methods(self):
         own = [node.name for path in FILES for node in nodes(path, ast.FunctionDef)]
         for path in FILES:
-            bound = [node.arg for node in nodes(path, ast.arg)] + [node.name for node in nodes(path, ast.ClassDef)]
+            bound = [node.arg for node in nodes(path, ast.arg)]
             for node in nodes(path, ast.Name):
                 if isinstance(node.ctx, ast.Store):
                     bound.append(node.id)
                 elif hasattr(builtins, node.id):
                     self.assertIn(node.id, BUILTINS, path.name)
+            kept = [name.name for row in nodes(path, ast.ImportFrom) for name in row.names]
+            kept += [node.name for node in nodes(path, ast.ClassDef)]
+            self.assertEqual(len(kept), len(set(kept)), path.name)
+            for name in [node.arg for node in nodes(path, ast.arg)] + bound:
+                self.assertNotIn(name, kept, path.name)
             for name in bound:
                 self.assertRegex(name, r"\A[A-Za-z][A-Za-z0-9_]*\Z", path.name)
                 self.assertFalse(hasattr(builtins, name), name)
             for node in nodes(path, ast.Call):
                 if isinstance(node.func, ast.Attribute):
                     self.assertIn(node.func.attr, METHODS + own, path.name)
+
+    def test_no_name_is_a_method_here_and_a_value_there(self):
+        methods = []
+        values = []
+        for path in FILES:
+            for node in nodes(path, ast.ClassDef):
+                own = [row.name for row in node.body if isinstance(row, ast.FunctionDef)]
+                self.assertEqual(len(own), len(set(own)), node.name)
+                methods += own
+            values += [node.attr for node in nodes(path, ast.Attribute) if isinstance(node.ctx, ast.Store)]
+        self.assertEqual(set(methods) & set(values), set())
+        for name in methods + values:
+            for value in ("", 0, [], {}, (), set(), b""):
+                self.assertTrue(name == "__init__" or not hasattr(value, name), name)
+
+    def test_what_is_walked_on_the_spot_is_not_kept(self):
+        for path in FILES:
+            for node in nodes(path, (ast.Assign, ast.Return)):
+                if isinstance(node.value, ast.Call) and isinstance(node.value.func, ast.Name):
+                    self.assertNotIn(node.value.func.id, ("zip", "enumerate", "reversed", "range", "set"), path.name)
 
 
 if __name__ == "__main__":
